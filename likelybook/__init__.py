@@ -1,0 +1,1 @@
+"""Likelybook: books of what is likelier than what."""
