@@ -21,8 +21,7 @@ class Book:
     """Cases and up to twelve sayings about them, in an order."""
 
     def __init__(self, cases, sayings=()):
-        if not are_cases(cases):
-            raise InvalidCases(cases)
+        check_cases(cases)
         _check_sayings(cases, sayings)
         self._cases = cases
         self._sayings = sayings
@@ -61,8 +60,7 @@ class Book:
 
     def with_saying(self, saying):
         """The book with one saying more, the last one."""
-        if not is_saying(self._cases, saying):
-            raise InvalidSaying(saying)
+        check_saying(self._cases, saying)
         if len(self._sayings) >= MOST_SAYINGS:
             raise TooMany(MOST_SAYINGS)
         return Book(self._cases, self._sayings + (saying,))
@@ -110,6 +108,12 @@ def _renamed(saying, cases, others):
     return (word, *lots, *rest)
 
 
+def check_cases(cases):
+    """Raises InvalidCases if a value is no cases."""
+    if not are_cases(cases):
+        raise InvalidCases(cases)
+
+
 def check_book(book):
     """Raises NotABook if a value is no book."""
     if not isinstance(book, Book):
@@ -120,3 +124,9 @@ def check_lot(cases, lot):
     """Raises InvalidLot if a value is no lot of the cases."""
     if not is_lot(cases, lot):
         raise InvalidLot(lot)
+
+
+def check_saying(cases, saying):
+    """Raises InvalidSaying if a value is no saying about the cases."""
+    if not is_saying(cases, saying):
+        raise InvalidSaying(saying)

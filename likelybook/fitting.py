@@ -1,10 +1,10 @@
 """Odds that fit a book, and balances of a book that no odds fit."""
 
 from likelybook.books import check_book, check_lot
-from likelybook.errors import InvalidOdds
-from likelybook.leaning import holds, is_balance_of
+from likelybook.errors import InvalidOdds, NoOdds
+from likelybook.leaning import demands_of, holds, is_balance_of
 from likelybook.ratios import fraction, is_fraction, over_whole
-from likelybook.solving import odds_or_balance
+from likelybook.solving import can_hold, odds_or_balance
 
 
 def odds_of(book, odds, lot):
@@ -54,6 +54,11 @@ def is_balance(book, counts):
     return is_balance_of(book.cases, book.sayings, counts)
 
 
+def may_hold(book, saying):
+    """Whether a saying holds in some odds that fit, of a book of any number of sayings."""
+    return can_hold(len(book.cases), demands_of(book.cases, book.sayings + (saying,)))
+
+
 def check_odds(cases, odds):
     """Raises InvalidOdds if a value is no odds for the cases."""
     if not isinstance(odds, tuple):
@@ -64,3 +69,10 @@ def check_odds(cases, odds):
     amounts, whole = over_whole(odds)
     if len(odds) < len(cases) or sum(amounts) != whole:
         raise InvalidOdds(None)
+
+
+def check_fits(book):
+    """Raises NoOdds if no odds fit a book."""
+    _, found = odds_or_balance(book.cases, book.sayings)
+    if found is not None:
+        raise NoOdds(found)

@@ -1,4 +1,8 @@
-"""To which side sayings lean, when they hold, and what a balance of them is."""
+"""To which side sayings lean, what they demand, when they hold, and what a balance of them is.
+
+A demand is a pair of a word and the list of the leans for the cases: the sum of all leans, each times
+the odds of its case, is above 0 ("more"), 0 ("same"), or not below 0 ("least").
+"""
 
 from likelybook.ratios import is_integer
 
@@ -8,6 +12,22 @@ def lean(saying, case):
     word, left, right, *rest = saying
     times = rest[0] if word == "times" else 1
     return (1 if case in left else 0) - (times if case in right else 0)
+
+
+def demands_of(cases, sayings):
+    """The list of what sayings demand, one for each."""
+    return [(_demanded(saying[0]), [lean(saying, case) for case in cases]) for saying in sayings]
+
+
+def opposites(demand):
+    """The demands of which one holds just where this one does not."""
+    word, leans = demand
+    turned = [-number for number in leans]
+    if word == "more":
+        return [("least", turned)]
+    if word == "same":
+        return [("more", leans), ("more", turned)]
+    return [("more", turned)]
 
 
 def holds(saying, cases, amounts):
@@ -30,6 +50,11 @@ def is_balance_of(cases, sayings, counts):
     if any([saying[0] == "more" and count > 0 for saying, count in zip(sayings, counts)]):
         return max(sums) <= 0
     return max(sums) < 0
+
+
+def _demanded(word):
+    """The word of the demand of a saying with this word."""
+    return "least" if word == "times" else word
 
 
 def _may_count(saying, count):

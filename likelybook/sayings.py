@@ -16,6 +16,24 @@ def is_lot(cases, value):
     return isinstance(value, str) and value == "".join([case for case in cases if case in value])
 
 
+def lots_of(cases):
+    """All lots of the cases, an ascending list."""
+    lots = [""]
+    for case in cases:
+        lots = lots + [lot + case for lot in lots]
+    return sorted(lots)
+
+
+def shared(lot, other):
+    """The cases of a lot that are in another one."""
+    return "".join([case for case in lot if case in other])
+
+
+def unshared(lot, other):
+    """The cases of a lot that are not in another one."""
+    return "".join([case for case in lot if case not in other])
+
+
 def are_cases(value):
     """Whether any value is the cases of a book."""
     return is_lot(LETTERS, value) and LEAST_CASES <= len(value) <= MOST_CASES

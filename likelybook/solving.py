@@ -1,48 +1,83 @@
-"""Odds in which all sayings hold, or a balance, found by the simplex method over integers.
+"""What odds can do and what they surely do, found by the simplex method over integers.
 
-Columns, one for each saying, with its leans for the cases, are taken some times each so that for
-no case their sum gets above 0. To take a saying with the word "more" gains 1. One column more, a 1
-for each case, gains 1, too: it can be taken only if the sums of the others are below 0 for each
-case. So the sayings that are taken are a balance if anything is gained. If nothing can be gained,
-there are prices of the cases at which no column has less worth than it gains: but for their sum,
-which the last column keeps above 0, they are odds.
+Demands (see leaning) have columns: their leans for the cases. Columns are taken some times each,
+as often as the limits of the cases, one for each, bear: the sum of all that is taken may not get
+above them. To take a column gains something. Either a column can be taken without end, and gains
+without end; or nothing more can be gained, and there are prices of the cases at which no column
+has less worth than it gains, and at which the limits have just the worth of what is gained.
 """
 
-from likelybook.leaning import lean
+from likelybook.leaning import demands_of
 from likelybook.ratios import common_multiple, fraction, shortened
 
 
 def odds_or_balance(cases, sayings):
     """A pair: odds in which all sayings hold, and None; or None, and a balance of the sayings."""
-    sides = [(index, 1) for index in range(len(sayings))]
-    # "same" may also be taken less than no times, as its reverse.
-    sides = sides + [(index, -1) for index, saying in enumerate(sayings) if saying[0] == "same"]
-    columns = [[sign * lean(sayings[index], case) for case in cases] for index, sign in sides]
-    gains = [1 if sayings[index][0] == "more" else 0 for index, sign in sides]
-    counts, prices = _gained(columns + [[1] * len(cases)], gains + [1])
-    if counts is None:
+    return _odds_or_counts(len(cases), demands_of(cases, sayings))
+
+
+def can_hold(size, demands):
+    """Whether all demands hold in some odds of so many cases."""
+    found, _ = _odds_or_counts(size, demands)
+    return found is not None
+
+
+def least_multiple(demands, above, below):
+    """The greatest fraction so that one lot is surely at least so many times as likely as another one.
+
+    The lots, above and below, are lists with a 1 for each case that is in the lot, a 0 for each other
+    one. None if the lot below surely has the odds 0. All demands have to hold in some odds.
+    """
+    columns, _ = _columns(demands)
+    # The lot below is taken, next to the demands, as many times as the lot above bears.
+    gains = [0] * len(columns) + [1]
+    table, basis, _, entering = _solved(columns + [below], gains, above)
+    if entering is not None:
+        return None
+    # As nothing else gains the lot below enters the basis first, and never leaves it.
+    row = table[basis.index(len(columns))]
+    return fraction(row[-1], row[len(columns)])
+
+
+def _odds_or_counts(size, demands):
+    """A pair: odds of so many cases, and None; or None, and how many times each demand is taken in a balance."""
+    columns, sides = _columns(demands)
+    # A demand with the word "more" gains. One column more, a 1 for each case, gains, too: with the
+    # limits 0 it can be taken only if the sums of the others are below 0 for each case. So what is
+    # taken to gain is a balance. If nothing can be gained the prices are odds but for their sum,
+    # which this column keeps above 0.
+    gains = [1 if demands[index][0] == "more" else 0 for index, _ in sides]
+    table, basis, goal, entering = _solved(columns + [[1] * size], gains + [1], [0] * size)
+    if entering is None:
+        prices = [-gain for gain in goal[len(columns) + 1:-1]]
         total = sum(prices)
         return tuple([fraction(price, total) for price in prices]), None
-    totals = [0] * len(sayings)
-    for (index, sign), count in zip(sides, counts):
-        totals[index] += sign * count
-    return None, tuple(shortened(totals))
+    counts = [0] * len(demands)
+    for (index, sign), count in zip(sides, _ray(table, basis, entering)):
+        counts[index] += sign * count
+    return None, tuple(shortened(counts))
 
 
-def _gained(columns, gains):
-    """A pair: how many times each column is taken to gain, and None; or None, and prices."""
-    width, height = len(columns), len(columns[0])
-    # Behind the columns there is one for each case, which takes up what its sum is below 0.
-    table = [[column[row] for column in columns] + _unit(height, row) for row in range(height)]
-    goal = gains + [0] * height
+def _columns(demands):
+    """A pair: the columns of the demands, and for each column the index of its demand and 1 or -1."""
+    sides = [(index, 1) for index in range(len(demands))]
+    # "same" may also be taken less than no times, as its reverse.
+    sides = sides + [(index, -1) for index, demand in enumerate(demands) if demand[0] == "same"]
+    return [[sign * number for number in demands[index][1]] for index, sign in sides], sides
+
+
+def _solved(columns, gains, limits):
+    """The table, its basis and its goal at the end, and the column that gains without end, None if there is none."""
+    width, height = len(columns), len(limits)
+    # Behind the columns there is one for each case, which takes up what its sum is below its limit.
+    table = [[column[row] for column in columns] + _unit(height, row) + [limits[row]] for row in range(height)]
+    goal = gains + [0] * (height + 1)
     basis = list(range(width, width + height))
     while True:
-        entering = _first_above(goal)
-        if entering is None:
-            return None, [-gain for gain in goal[width:]]
-        leaving = _leaving(table, basis, entering)
+        entering = _first_above(goal[:-1])
+        leaving = None if entering is None else _leaving(table, basis, entering)
         if leaving is None:
-            return _ray(table, basis, entering)[:width], None
+            return table, basis, goal, entering
         by = table[leaving]
         for row in range(height):
             if row != leaving:
@@ -66,9 +101,19 @@ def _first_above(goal):
 
 
 def _leaving(table, basis, entering):
-    """The row that keeps a column from being taken without end, None if there is none."""
-    rows = [row for row in range(len(table)) if table[row][entering] > 0]
-    return min(rows, key=lambda row: basis[row], default=None)
+    """The row that first keeps a column from being taken more often, None if there is none."""
+    found = None
+    for row in range(len(table)):
+        if table[row][entering] > 0 and (found is None or _is_sooner(table, basis, entering, row, found)):
+            found = row
+    return found
+
+
+def _is_sooner(table, basis, entering, row, other):
+    """Whether a row keeps a column sooner than another row does from being taken more often."""
+    mine = table[row][-1] * table[other][entering]
+    its = table[other][-1] * table[row][entering]
+    return (mine, basis[row]) < (its, basis[other])
 
 
 def _cleared(numbers, by, at):

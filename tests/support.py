@@ -5,12 +5,15 @@ package, so that both cannot be wrong in the same way.
 """
 
 import random
+import unittest
 from fractions import Fraction
 from itertools import combinations
 
+from likelybook import errors
 from likelybook.books import Book
 
 LETTERS = "abcdefghijklmnopqrstuvwxyz"
+ATTRIBUTES = {"InvalidSayings": "index", "InvalidOdds": "index", "TooMany": "limit", "NoOdds": "balance"}
 
 
 class EqualToAll:
@@ -20,6 +23,44 @@ class EqualToAll:
         return True
 
     __hash__ = None
+
+
+WRONG_CASES = [
+    "a", "abcdefg", "ba", "aa", "aab", "abb", "acb", "aB", "AB", "a b", "ab ", " ab", "a-", "ab\n", "a1", "`a", "z{",
+    ("a", "b"), ["a", "b"], "cases ab", 12,
+]
+WRONG_LOTS = ["d", "ad", "ba", "aa", "-", " ", "A", "a ", "acb", None, 0, b"a", ("a",), ["a"], EqualToAll()]
+WRONG_NUMBERS = [True, False, None, 0, 1, -2, 10, 11, "2", (2,), [2], b"2", EqualToAll()]
+
+
+class Raising(unittest.TestCase):
+    """Tests of errors."""
+
+    def error(self, kind, function, /, *values, **named):
+        """The error that a call raises: of this class alone, and under one base class."""
+        with self.assertRaises(kind) as caught:
+            function(*values, **named)
+        self.assertIs(type(caught.exception), kind)
+        bases = (errors.BadValue, errors.BadName, errors.NoAnswer)
+        self.assertEqual([isinstance(caught.exception, base) for base in bases].count(True), 1)
+        return caught.exception
+
+    def raised(self, kind, told, function, /, *values, **named):
+        """A call raises an error that tells what was given, the index or the limit."""
+        error = self.error(kind, function, *values, **named)
+        attribute = ATTRIBUTES.get(kind.__name__, "given")
+        if attribute == "given":
+            self.assertIs(error.given, told)
+        else:
+            self.assertEqual(getattr(error, attribute), told)
+            self.assertIs(type(getattr(error, attribute)), type(told))
+
+    def no_odds(self, book, function, /, *values, **named):
+        """A call raises NoOdds with a balance of the book."""
+        error = self.error(errors.NoOdds, function, *values, **named)
+        self.assertIs(type(error.balance), tuple)
+        self.assertEqual({type(count) for count in error.balance}, {int})
+        self.assertTrue(balances(book, error.balance))
 
 
 def nested(depth):
@@ -37,6 +78,20 @@ def odd_values():
         set(), {1, 2}, frozenset("ab"), range(3), object(), EqualToAll(), len, str, Book, Exception("a"),
         lambda: 1, 1j, iter(()), ("more", "a"), ("more", ["a"], "b"), ((EqualToAll(), "a", "b"),),
     ]
+
+
+def wrong_sayings():
+    """Values that are no saying about the cases abc."""
+    wrong = [value for value in odd_values()]
+    for lot in WRONG_LOTS:
+        wrong += [("more", lot, "b"), ("same", "b", lot), ("times", lot, "b", 2), ("times", "b", lot, 2)]
+    wrong += [("times", "a", "b", number) for number in WRONG_NUMBERS]
+    for word in ("less", "most", "open", "More", "", "-", "more ", None, 0, ("more",), b"more", EqualToAll()):
+        wrong += [(word, "a", "b"), (word, "a", "b", 2)]
+    for word in ("more", "least", "same"):
+        wrong += [[word, "a", "b"], (word, "a"), (word,), (word, "a", "b", 2), (word, "a", "b", "c"), word + " a b"]
+    wrong += [("times", "a", "b"), ("times", "a", "b", 2, 2), ["times", "a", "b", 2], ("times", "a", 2, "b")]
+    return wrong
 
 
 def lots(cases):

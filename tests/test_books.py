@@ -9,45 +9,20 @@ from likelybook.errors import (
     InvalidText,
     TooMany,
 )
-from tests.support import EqualToAll, all_sayings, lots, odd_values, some_books
+from tests.support import (
+    WRONG_CASES,
+    EqualToAll,
+    Raising,
+    all_sayings,
+    lots,
+    odd_values,
+    some_books,
+    wrong_sayings,
+)
 
 RAIN = ("more", "a", "bc")
 RIGHT = ("least", "b", "a")
 TWELVE = tuple([("times", "a", "bc", 2 + turn % 8) for turn in range(12)])
-WRONG_CASES = [
-    "a", "abcdefg", "ba", "aa", "aab", "abb", "acb", "aB", "AB", "a b", "ab ", " ab", "a-", "ab\n", "a1", "`a", "z{",
-    ("a", "b"), ["a", "b"], "cases ab", 12,
-]
-WRONG_LOTS = ["d", "ad", "ba", "aa", "-", " ", "A", "a ", "acb", None, 0, b"a", ("a",), ["a"], EqualToAll()]
-WRONG_NUMBERS = [True, False, None, 0, 1, -2, 10, 11, "2", (2,), [2], b"2", EqualToAll()]
-
-
-def wrong_sayings():
-    """Values that are no saying about the cases abc."""
-    wrong = [value for value in odd_values()]
-    for lot in WRONG_LOTS:
-        wrong += [("more", lot, "b"), ("same", "b", lot), ("times", lot, "b", 2), ("times", "b", lot, 2)]
-    wrong += [("times", "a", "b", number) for number in WRONG_NUMBERS]
-    for word in ("less", "most", "open", "More", "", "-", "more ", None, 0, ("more",), b"more", EqualToAll()):
-        wrong += [(word, "a", "b"), (word, "a", "b", 2)]
-    for word in ("more", "least", "same"):
-        wrong += [[word, "a", "b"], (word, "a"), (word,), (word, "a", "b", 2), (word, "a", "b", "c"), word + " a b"]
-    wrong += [("times", "a", "b"), ("times", "a", "b", 2, 2), ["times", "a", "b", 2], ("times", "a", 2, "b")]
-    return wrong
-
-
-class Raising(unittest.TestCase):
-    def raised(self, kind, given, function, *values, **named):
-        """The error that a call raises, which has what was given or the index."""
-        with self.assertRaises(kind) as caught:
-            function(*values, **named)
-        self.assertIs(type(caught.exception), kind)
-        if kind in (InvalidSayings, TooMany):
-            told = caught.exception.index if kind is InvalidSayings else caught.exception.limit
-            self.assertEqual(told, given)
-            self.assertIs(type(told), type(given))
-        else:
-            self.assertIs(caught.exception.given, given)
 
 
 class Making(Raising):

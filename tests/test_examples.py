@@ -4,6 +4,14 @@ import unittest
 
 from likelybook.books import Book
 from likelybook.fitting import agrees, balance, failing, is_balance, odds, odds_of
+from likelybook.mending import may_say, needless, open_pairs, strikes
+from likelybook.orders import count_plain, giving, is_order, is_plain, order
+from likelybook.sure import greatest_given, greatest_odds, least_given, least_odds, least_times, sure
+from likelybook.whole import how_many, weights
+
+RAIN = Book("abc", (("more", "a", "bc"),))
+BAD = RAIN.with_saying(("least", "b", "a"))
+TWO = Book.read("cases ab\ntimes a b 3\nmore b -")
 
 
 class Examples(unittest.TestCase):
@@ -38,6 +46,70 @@ class Examples(unittest.TestCase):
                 is_balance(rain, (0,)), is_balance(Book("ab", (("least", "", "ab"),)), (1,)),
             ],
             [True, True, False, False, True],
+        )
+
+    def test_sure(self):
+        rain, two = RAIN, TWO
+        self.assertEqual(
+            [
+                sure(rain, "a", "b"), sure(rain, "b", "c"), sure(rain, "ab", "a"), sure(rain, "c", "abc"),
+                sure(rain, "a", "a"), sure(rain, "a", "ab"),
+            ],
+            ['more', 'open', 'least', 'less', 'same', 'most'],
+        )
+        self.assertEqual(
+            [
+                least_odds(rain, "a"), greatest_odds(rain, "a"), greatest_odds(rain, "b"), least_odds(two, "a"),
+                greatest_odds(two, "a"),
+            ],
+            [((1, 2), False), ((1, 1), True), ((1, 2), False), ((3, 4), True), ((1, 1), False)],
+        )
+        self.assertEqual(
+            [
+                least_times(two, "a", "b"), least_times(rain, "a", "bc"), least_times(rain, "b", "a"),
+                least_times(rain, "a", ""), least_given(rain, "a", "ab"), greatest_given(rain, "a", "ab"),
+                least_given(rain, "bc", "c"),
+            ],
+            [(3, 1), (1, 1), (0, 1), None, (1, 2), (1, 1), (1, 1)],
+        )
+
+    def test_whole(self):
+        two, rain, bad = TWO, RAIN, BAD
+        self.assertEqual(
+            [
+                weights(two, 10), how_many(two, 4), how_many(two, 8), weights(rain, 5), weights(two, 3),
+                weights(bad, 30),
+            ],
+            [(3, 1), 1, 2, (1, 0, 0), None, None],
+        )
+
+    def test_orders(self):
+        self.assertEqual(
+            [
+                order("ab", ((2, 3), (1, 3))), order("ab", ((1, 2), (1, 2))), order("ab", ((1, 1), (0, 1))),
+                is_plain("ab", (("",), ("b",), ("ab",), ("a",))), is_order("ab", (("",), ("b",), ("ab",), ("a",))),
+            ],
+            [
+                (('',), ('b',), ('a',), ('ab',)), (('',), ('a', 'b'), ('ab',)), (('', 'b'), ('a', 'ab')),
+                False, True,
+            ],
+        )
+        self.assertEqual(
+            [
+                giving("ab", (("",), ("a", "b"), ("ab",))), giving("ab", (("",), ("b",), ("ab",), ("a",))),
+                count_plain("ab"), count_plain("abc"),
+            ],
+            [((1, 2), (1, 2)), None, 2, 12],
+        )
+
+    def test_mending(self):
+        rain, bad = RAIN, BAD
+        self.assertEqual(
+            [
+                strikes(bad), strikes(rain), may_say(rain, ("least", "c", "b")), may_say(rain, ("more", "b", "a")),
+                needless(rain.with_saying(("more", "a", "c"))), open_pairs(rain),
+            ],
+            [((0,), (1,)), ((),), True, False, (1,), (('b', 'c'),)],
         )
 
 
