@@ -24,6 +24,11 @@ def fraction(above, below):
     return (above // shared, below // shared)
 
 
+def is_below(part, other):
+    """Whether a fraction is less than another one."""
+    return part[0] * other[1] < other[0] * part[1]
+
+
 def common_multiple(numbers):
     """The least common multiple of integers from 1 on."""
     whole = 1

@@ -1,4 +1,4 @@
-"""Cases, lots and sayings, and the lines that tell them."""
+"""Cases, lots and sayings, and the lines that tell them; and names."""
 
 from likelybook.limits import MOST_CASES, MOST_TIMES
 from likelybook.ratios import is_integer
@@ -6,6 +6,7 @@ from likelybook.ratios import is_integer
 LETTERS = "abcdefghijklmnopqrstuvwxyz"
 LEAST_CASES = 2
 LEAST_TIMES = 2
+MOST_LETTERS = 8
 PLAIN_WORDS = ("more", "least", "same")
 NONE_WORD = "-"
 
@@ -34,6 +35,21 @@ def unshared(lot, other):
     return "".join([case for case in lot if case not in other])
 
 
+def marks(cases, lot):
+    """A list with a 1 for each case that is in the lot, a 0 for each other one."""
+    return [1 if case in lot else 0 for case in cases]
+
+
+def are_letters(word):
+    """Whether a string has letters, from a to z, alone, one or more."""
+    return word != "" and all([letter in LETTERS for letter in word])
+
+
+def is_name(value):
+    """Whether any value is a name."""
+    return isinstance(value, str) and are_letters(value) and len(value) <= MOST_LETTERS
+
+
 def are_cases(value):
     """Whether any value is the cases of a book."""
     return is_lot(LETTERS, value) and LEAST_CASES <= len(value) <= MOST_CASES
@@ -50,6 +66,16 @@ def is_saying(cases, value):
     if word == "times":
         return len(rest) == 1 and is_integer(rest[0]) and LEAST_TIMES <= rest[0] <= MOST_TIMES
     return word in PLAIN_WORDS and not rest
+
+
+def is_plain_word(value):
+    """Whether any value is the word of a saying that has two lots alone."""
+    return isinstance(value, str) and value in PLAIN_WORDS
+
+
+def denial(word, left, right):
+    """The saying that holds just where this one, with the word "more" or "least", does not."""
+    return ("least" if word == "more" else "more", right, left)
 
 
 def line_of(saying):

@@ -26,17 +26,28 @@ def least_multiple(demands, above, below):
     """The greatest fraction so that one lot is surely at least so many times as likely as another one.
 
     The lots, above and below, are lists with a 1 for each case that is in the lot, a 0 for each other
-    one. None if the lot below surely has the odds 0. All demands have to hold in some odds.
+    one. All demands have to hold in some odds. Behind the fraction stands the list of the shares, one
+    for each demand, that show it: for each case the sum of all leans, each times the share of its
+    demand, is at most what the lot above has, less the fraction times what the lot below has. Both
+    are None if the lot below surely has the odds 0.
     """
-    columns, _ = _columns(demands)
+    columns, sides = _columns(demands)
     # The lot below is taken, next to the demands, as many times as the lot above bears.
     gains = [0] * len(columns) + [1]
     table, basis, _, entering = _solved(columns + [below], gains, above)
     if entering is not None:
-        return None
-    # As nothing else gains the lot below enters the basis first, and never leaves it.
-    row = table[basis.index(len(columns))]
-    return fraction(row[-1], row[len(columns)])
+        return None, None
+    shares = [(0, 1)] * len(demands)
+    least = None
+    for row, at in zip(table, basis):
+        if at < len(sides):
+            index, sign = sides[at]
+            # The two sides of "same" are never in the basis together.
+            shares[index] = fraction(sign * row[-1], row[at])
+        elif at == len(sides):
+            # As nothing else gains the lot below enters the basis first, and never leaves it.
+            least = fraction(row[-1], row[at])
+    return least, shares
 
 
 def _odds_or_counts(size, demands):

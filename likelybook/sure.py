@@ -4,7 +4,7 @@ from likelybook.books import check_book, check_lot
 from likelybook.fitting import check_fits, may_hold
 from likelybook.leaning import demands_of
 from likelybook.ratios import fraction
-from likelybook.sayings import shared, unshared
+from likelybook.sayings import marks, shared, unshared
 from likelybook.solving import can_hold, least_multiple
 
 
@@ -68,7 +68,7 @@ def _least(book, lot):
     least = _times(book, lot, book.cases)
     above, below = least
     # In some odds that fit, these times the odds of the cases have a sum that is not below 0.
-    leans = [above - below * mark for mark in _marks(book.cases, lot)]
+    leans = [above - below * mark for mark in marks(book.cases, lot)]
     demands = demands_of(book.cases, book.sayings) + [("least", leans)]
     return least, can_hold(len(book.cases), demands)
 
@@ -76,12 +76,8 @@ def _least(book, lot):
 def _times(book, left, right):
     """The least times of two lots of a book that some odds fit, None if there are none."""
     demands = demands_of(book.cases, book.sayings)
-    return least_multiple(demands, _marks(book.cases, left), _marks(book.cases, right))
-
-
-def _marks(cases, lot):
-    """A list with a 1 for each case that is in the lot, a 0 for each other one."""
-    return [1 if case in lot else 0 for case in cases]
+    least, _ = least_multiple(demands, marks(book.cases, left), marks(book.cases, right))
+    return least
 
 
 def _less_from_one(part):

@@ -6,6 +6,7 @@ package, so that both cannot be wrong in the same way.
 
 import random
 import unittest
+from contextlib import contextmanager
 from fractions import Fraction
 from itertools import combinations
 
@@ -13,7 +14,9 @@ from likelybook import errors
 from likelybook.books import Book
 
 LETTERS = "abcdefghijklmnopqrstuvwxyz"
-ATTRIBUTES = {"InvalidSayings": "index", "InvalidOdds": "index", "TooMany": "limit", "NoOdds": "balance"}
+ATTRIBUTES = {
+    "InvalidSayings": "index", "InvalidOdds": "index", "TooMany": "limit", "NoOdds": "balance", "InUse": "index",
+}
 
 
 class EqualToAll:
@@ -57,10 +60,36 @@ class Raising(unittest.TestCase):
 
     def no_odds(self, book, function, /, *values, **named):
         """A call raises NoOdds with a balance of the book."""
-        error = self.error(errors.NoOdds, function, *values, **named)
-        self.assertIs(type(error.balance), tuple)
-        self.assertEqual({type(count) for count in error.balance}, {int})
-        self.assertTrue(balances(book, error.balance))
+        self.assert_balance(book, self.error(errors.NoOdds, function, *values, **named).balance)
+
+    def assert_balance(self, book, counts):
+        """A value is a balance of the book."""
+        self.assertIs(type(counts), tuple)
+        self.assertEqual({type(count) for count in counts}, {int})
+        self.assertTrue(balances(book, counts))
+
+    def broken(self, index, shown, function, /, *values, **named):
+        """A call raises Broken with this index, and with what is shown: if this is a book, a balance of it."""
+        error = self.error(errors.Broken, function, *values, **named)
+        self.assertEqual(error.index, index)
+        if isinstance(shown, Book):
+            self.assert_balance(shown, error.shown)
+        else:
+            self.assertEqual(error.shown, shown)
+            self.assertIs(type(error.shown), type(shown))
+
+    @contextmanager
+    def unchanged(self, desk):
+        """The rows do not change a desk."""
+        before = all_of(desk)
+        yield
+        self.assertEqual(all_of(desk), before)
+
+
+def all_of(desk):
+    """All that a desk tells of itself at this time."""
+    books = [(name, desk[name].text) for name in desk.titles]
+    return books, desk.claims, desk.changes, len(desk)
 
 
 def nested(depth):

@@ -3,9 +3,14 @@
 import unittest
 
 from likelybook.books import Book
+from likelybook.checker import accepts
+from likelybook.console import Console
+from likelybook.desks import Desk
+from likelybook.errors import Broken
 from likelybook.fitting import agrees, balance, failing, is_balance, odds, odds_of
 from likelybook.mending import may_say, needless, open_pairs, strikes
 from likelybook.orders import count_plain, giving, is_order, is_plain, order
+from likelybook.papers import paper_of_book, paper_of_least, paper_of_order, paper_of_sure
 from likelybook.sure import greatest_given, greatest_odds, least_given, least_odds, least_times, sure
 from likelybook.whole import how_many, weights
 
@@ -110,6 +115,61 @@ class Examples(unittest.TestCase):
                 needless(rain.with_saying(("more", "a", "c"))), open_pairs(rain),
             ],
             [((0,), (1,)), ((),), True, False, (1,), (('b', 'c'),)],
+        )
+
+    def test_desks(self):
+        rain = RAIN
+        desk = Desk()
+        desk["sky"] = rain
+        done = [
+            desk.claim(("sure", "sky", "more", "a", "c")), desk.claim(("from", "sky", "a", (1, 2))),
+            desk.say("sky", ("more", "b", "c")), desk.changes,
+        ]
+        self.assertEqual(
+            [done, len(desk["sky"]), desk.undo(), len(desk["sky"])],
+            [[None, None, None, 4], 2, None, 1],
+        )
+        with self.assertRaises(Broken) as caught:
+            desk.claim(("sure", "sky", "more", "b", "c"))
+        self.assertEqual((caught.exception.index, caught.exception.shown), (2, 'open'))
+
+    def test_console(self):
+        console = Console()
+        self.assertEqual(
+            [
+                console.run("put b\ncases abc\nmore a bc"), console.run("agrees b"), console.run("sure b a c"),
+                console.run("odds b a"), console.run("say b more b -"), console.run("weights b 9"),
+                console.run("names"), console.run("claims"),
+            ],
+            ['ok', 'yes', 'more', '1/2 1/1', 'ok', '2 1 0', 'b', '0'],
+        )
+
+    def test_papers_and_the_checker(self):
+        rain, bad, two = RAIN, BAD, TWO
+        papers = [
+            paper_of_book(rain), paper_of_book(bad), paper_of_sure(rain, "more", "a", "c"),
+            paper_of_least(two, "a"), paper_of_order("ab", (("",), ("a", "b"), ("ab",))),
+        ]
+        self.assertEqual(
+            [
+                papers[0][0], papers[1][0][0], papers[2][0], papers[3][0][3], papers[4],
+                paper_of_sure(rain, "least", "b", "c"),
+            ],
+            [
+                ('odds', 'cases abc\nmore a bc'), 'none', ('sure', 'cases abc\nmore a bc', 'more', 'a', 'c'), (3, 4),
+                (('order', 'ab', (('',), ('a', 'b'), ('ab',))), ((1, 2), (1, 2))), None,
+            ],
+        )
+        self.assertEqual(
+            [
+                accepts(papers[0][0], papers[0][1]), accepts(papers[1][0], papers[1][1]),
+                accepts(papers[2][0], papers[2][1]), accepts(papers[3][0], papers[3][1]),
+                accepts(papers[4][0], papers[4][1]), accepts(("none", bad.text), (1, 1)),
+                accepts(("sure", rain.text, "more", "a", "c"), (1, 1)),
+                accepts(("from", two.text, "a", (3, 4)), ((1, 4), (0, 1))),
+                accepts(("from", two.text, "a", (4, 5)), ((1, 4), (0, 1))),
+            ],
+            [True, True, True, True, True, True, True, True, False],
         )
 
 
