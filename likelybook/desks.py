@@ -58,8 +58,7 @@ class Desk:
         self._put(name, book)
 
     def __getitem__(self, name):
-        if name not in self:
-            raise UnknownName(name)
+        self._check_known(name)
         return self._now.books[name]
 
     def __iter__(self):
@@ -85,7 +84,9 @@ class Desk:
         if not is_claim(claim):
             raise InvalidClaim(claim)
         self._check_known(claim[1])
-        self._change_checked(self._now.books, self._now.claimed + (claim,))
+        books, claimed = self._now.books, self._now.claimed
+        _check_holds(len(claimed), claim, books[claim[1]])
+        self._change(books, claimed + (claim,))
 
     def lift(self, index):
         """Takes a claim away."""
@@ -146,16 +147,19 @@ class Desk:
 
     def _put(self, name, book):
         """Puts a book under a name if all claims hold then."""
-        self._change_checked({**self._now.books, name: book}, self._now.claimed)
-
-    def _change_checked(self, books, claimed):
-        """Changes to these books and claims if all of the claims hold for them."""
-        for index, claim in enumerate(claimed):
-            holds, shown = asked(books[claim[1]], claim)
-            if not holds:
-                raise Broken(index, shown)
-        self._change(books, claimed)
+        for index, claim in enumerate(self._now.claimed):
+            # The claims that speak of other books hold as they did.
+            if claim[1] == name:
+                _check_holds(index, claim, book)
+        self._change({**self._now.books, name: book}, self._now.claimed)
 
     def _change(self, books, claimed):
         """Changes to these books and claims, which go together."""
         self._now = State(books, claimed, self._now)
+
+
+def _check_holds(index, claim, book):
+    """Raises Broken if a claim, which has this index, does not hold for its book."""
+    holds, shown = asked(book, claim)
+    if not holds:
+        raise Broken(index, shown)

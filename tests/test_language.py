@@ -79,6 +79,33 @@ class Language(unittest.TestCase):
             self.assertEqual(bound & BUILTINS, set(), name)
             self.assertLessEqual({word for word in bound if word.startswith("__")}, METHODS, name)
 
+    def test_what_setting_and_getting_items_bars(self):
+        for path in files():
+            text = path.read_text("ascii")
+            for word in ("(type)", "Meta", "metaclass="):
+                self.assertNotIn(word, text, path)
+            for node in ast.walk(ast.parse(text)):
+                if isinstance(node, ast.Attribute):
+                    self.assertNotEqual(node.attr, "keys", path)
+                if isinstance(node, ast.ClassDef):
+                    names = {part.name for part in node.body if isinstance(part, ast.FunctionDef)}
+                    self.assertNotIn("keys", names)
+                    self.assertTrue("__iter__" in names or "__getitem__" not in names)
+
+    def test_what_ends_with_statements_is_plain(self):
+        for name, tree in trees():
+            for node in ast.walk(tree):
+                if isinstance(node, ast.FunctionDef) and node.name == "__exit__":
+                    self.assertEqual(ast.unparse(node.args), "self, kind, value, trace", name)
+                    for part in ast.walk(ast.Module(node.body, [])):
+                        self.assertNotIsInstance(part, (ast.Call, ast.Subscript, ast.BinOp, ast.Tuple, ast.Raise), name)
+
+    def test_is_stands_beside_none(self):
+        for name, tree in trees():
+            for node in ast.walk(tree):
+                if isinstance(node, ast.Compare) and isinstance(node.ops[0], (ast.Is, ast.IsNot)):
+                    self.assertIsNone(node.comparators[0].value, name)
+
     def test_no_floats_and_no_true_division(self):
         for name, tree in trees():
             for node in ast.walk(tree):

@@ -384,7 +384,8 @@ class Errors(Raising):
     def test_wrong_orders(self):
         wrong = odd_values() + [
             list(UP), UP[1:], UP + UP, (("",), ("b", "a"), ("ab",)), UP + ((),), (("", "a", "b", "ab"),),
-            ("", "a", "b"), order("abc", THIRDS), tuple([list(group) for group in UP]), (("",), ("a",), ("b",), (EqualToAll(),)),
+            ("", "a", "b"), order("abc", THIRDS), tuple([list(group) for group in UP]),
+            (("",), ("a",), ("b",), (EqualToAll(),)),
         ]
         for value in wrong:
             with self.subTest(value):
